@@ -1,0 +1,1 @@
+"""Purses kept by many houses without one order."""
