@@ -1,7 +1,7 @@
 """Finds what breaks LANGUAGE.md in a package's files, as far as it can be seen without running them.
 
-What is not seen: L21 (annotations are refused altogether), most of L23 and L24 (walks, sets that are
-kept), and in L19 what may stand in a try.
+It is a part of the rules, no proof that all are kept. Seen in part: L3, L4, L15, L18, L19, L23, L25. Not seen:
+L6's finally, L7's bytes, L13, L22, L24, L26, L28. Stricter than L21: annotations are refused altogether.
 """
 
 import ast
