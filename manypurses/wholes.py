@@ -8,3 +8,13 @@ def is_whole(thing):
 
 def is_between(thing, low, high):
     return is_whole(thing) and low <= thing <= high
+
+
+def are_rising(things, bound):
+    """Whether a row holds nothing but whole numbers from 0 to below the bound, rising, each once."""
+    least = 0
+    for thing in things:
+        if not is_between(thing, least, bound - 1):
+            return False
+        least = thing + 1
+    return True

@@ -1,7 +1,8 @@
 """Finds what breaks LANGUAGE.md in a package's files, as far as it can be seen without running them.
 
-It is a part of the rules, no proof that all are kept. Seen in part: L3, L4, L15, L18, L19, L23, L25. Not seen:
-L6's finally, L7's bytes, L13, L22, L24, L26, L28. Stricter than L21: annotations are refused altogether.
+It is a part of the rules, no proof that all are kept. Seen in part: L3, L4, L15, L18, L19, L23, L24, L25, L26. Not
+seen: L6's finally, L7's bytes, L13, L22, L28. Stricter than L21 and L24: annotations are refused altogether, and sets
+that are kept.
 """
 
 import ast
@@ -38,6 +39,11 @@ ALLOWED = (
     ast.SetComp, ast.DictComp, ast.Compare, ast.Call, ast.FormattedValue, ast.JoinedStr, ast.Constant, ast.Attribute,
     ast.Subscript, ast.Starred, ast.Name, ast.List, ast.Tuple, ast.Slice, ast.comprehension, ast.arguments, ast.arg,
     ast.keyword, ast.alias, ast.expr_context, ast.boolop, ast.operator, ast.unaryop, ast.cmpop)
+CHANGES = set("append clear extend insert pop remove reverse setdefault update sort add discard".split())
+OWN_METHODS = {name for kind in (str, int, list, dict, set, bytes, tuple) for name in dir(kind)}
+FREE_METHODS = METHODS - set(
+    "encode decode hex fromhex to_bytes from_bytes translate maketrans sort bit_length".split())
+FREE_VALUES = set("count index title find get join lower upper split strip copy add".split())
 COMPREHENSIONS = (ast.ListComp, ast.SetComp, ast.DictComp)
 WALKED = ("zip", "enumerate", "reversed", "range")
 VIEWS = ("items", "keys", "values")
@@ -146,6 +152,11 @@ def top_faults(tree):
     top_classes = [row for row in tree.body if isinstance(row, ast.ClassDef)]
     found += [(node.lineno, "L15") for node in ast.walk(tree)
               if isinstance(node, ast.ClassDef) and node not in top_classes]
+    taken = imported(tree) + [row.name for row in top_classes]
+    for node in ast.walk(tree):
+        if isinstance(node, ast.FunctionDef):
+            within = [each for each in ast.walk(node) if not isinstance(each, ast.ClassDef)]
+            found += [(node.lineno, "L15") for each in within for name in names_of(each)[0] if name in taken]
     inner = [row for row in ast.walk(tree) if isinstance(row, ast.ImportFrom) and row not in tree.body]
     return found + [(row.lineno, "L2") for row in inner]
 
@@ -300,11 +311,88 @@ def names_of(node):
     return [], []
 
 
-LOOKS = (import_looks, function_looks, class_looks, statement_looks, expression_looks, name_looks)
+def loop_looks(node):
+    """What a loop walks, and its body changes."""
+    if not isinstance(node, ast.For):
+        return []
+    walked = {ast.unparse(thing) for thing in walked_things(node.iter)}
+    for row in node.body:
+        for each in ast.walk(row):
+            if walked & {ast.unparse(thing) for thing in changed_things(each)}:
+                return ["L23"]
+    return []
+
+
+def walked_things(node):
+    if isinstance(node, ast.Call) and isinstance(node.func, ast.Name) and node.func.id in WALKED:
+        return [thing for arg in node.args for thing in walked_things(arg)]
+    if isinstance(node, ast.Call) and isinstance(node.func, ast.Attribute) and node.func.attr in VIEWS:
+        return [node.func.value]
+    return [node]
+
+
+def changed_things(node):
+    if isinstance(node, ast.Call) and isinstance(node.func, ast.Attribute) and node.func.attr in CHANGES:
+        return [node.func.value]
+    if isinstance(node, ast.Subscript) and not isinstance(node.ctx, ast.Load):
+        return [node.value]
+    if isinstance(node, ast.AugAssign):
+        return [node.target]
+    return []
+
+
+def set_looks(node):
+    """Sets stand behind `in`, beside `==`, or straight within sorted(..) or len(..)."""
+    found = []
+    for child in ast.iter_child_nodes(node):
+        is_called = isinstance(child, ast.Call) and isinstance(child.func, ast.Name) and child.func.id == "set"
+        if isinstance(child, (ast.Set, ast.SetComp)) or is_called:
+            is_counted = isinstance(node, ast.Call) and isinstance(node.func, ast.Name) and not node.keywords \
+                and node.func.id in ("sorted", "len")
+            if not is_counted and not isinstance(node, ast.Compare):
+                found.append("L24")
+    return found
+
+
+def own_name_looks(node):
+    """Methods and values that are called like Python's own."""
+    found = []
+    if isinstance(node, ast.ClassDef):
+        names = [row.name for row in node.body if isinstance(row, ast.FunctionDef)]
+        found += ["L26" for name in names if name in OWN_METHODS - FREE_METHODS - DUNDERS]
+    if isinstance(node, ast.Attribute) and isinstance(node.ctx, ast.Store):
+        found += ["L26"] if node.attr in OWN_METHODS - FREE_VALUES else []
+    return found
+
+
+LOOKS = (import_looks, function_looks, class_looks, statement_looks, expression_looks, name_looks, loop_looks,
+         set_looks, own_name_looks)
 
 
 def package_faults(trees):
-    return import_faults(trees) + attribute_faults(trees)
+    return import_faults(trees) + attribute_faults(trees) + class_faults(trees)
+
+
+def class_faults(trees):
+    """Classes that do not stand where they are called, a base, raised, taken, or by isinstance."""
+    classes = {row.name for tree in trees.values() for row in tree.body if isinstance(row, ast.ClassDef)}
+    found = []
+    for name, tree in trees.items():
+        right = set()
+        for node in ast.walk(tree):
+            if isinstance(node, ast.Call):
+                right.add(node.func)
+                if isinstance(node.func, ast.Name) and node.func.id == "isinstance":
+                    right.update(each for arg in node.args[1:] for each in ast.walk(arg))
+            if isinstance(node, ast.ClassDef):
+                right.update(node.bases)
+            if isinstance(node, ast.ExceptHandler) and node.type is not None:
+                right.update(ast.walk(node.type))
+            if isinstance(node, ast.Attribute) and node.attr == "__init__":
+                right.add(node.value)
+        found += [f"{name}:{node.lineno} L18" for node in ast.walk(tree)
+                  if isinstance(node, ast.Name) and node.id in classes and node not in right]
+    return found
 
 
 def drawn(tree):

@@ -27,6 +27,12 @@ class Box:
         self.many -= much
         return [at for at in range(self.many) if at is not None]
 
+    def add(self, rows):
+        for at, row in enumerate(rows):
+            if isinstance(row, Box) and row.many in {at, self.many}:
+                self.many = len(set(rows))
+        return sorted({row.many for row in rows})
+
 
 def told(boxes):
     first, *rest = boxes
@@ -100,6 +106,21 @@ BROKEN = (
     ("L21", "def f(a: int):\n    return a\n"),
     ("L23", "def f(a):\n    return enumerate(a)\n"),
     ("L23", "def f(a):\n    b = a.items()\n    return list(b)\n"),
+    ("L15", "from manypurses.other import LIMIT\n\n\ndef f(LIMIT):\n    return LIMIT\n"),
+    ("L15", "class A:\n    pass\n\n\ndef f(a):\n    A = a\n    return A\n"),
+    ("L18", "class A:\n    pass\n\n\ndef f(a):\n    return [A]\n"),
+    ("L18", "from manypurses.other import Bad\n\n\ndef f(a):\n    return f(Bad)\n"),
+    ("L23", "def f(a):\n    for x in a:\n        a.append(x)\n"),
+    ("L23", "def f(a):\n    for k, x in enumerate(a):\n        a[k] = x\n"),
+    ("L23", "def f(a):\n    for k, x in a.items():\n        a.pop(k)\n"),
+    ("L23", "def f(a):\n    for k in a.b:\n        del a.b[k]\n"),
+    ("L23", "def f(a):\n    for x in a:\n        if x:\n            a += [x]\n"),
+    ("L24", "def f(a):\n    return set(a)\n"),
+    ("L24", "def f(a):\n    for x in {k for k in a}:\n        f(x)\n"),
+    ("L24", "def f(a):\n    return list({a, 1})\n"),
+    ("L24", "def f(a):\n    return sorted(set(a), key=f)\n"),
+    ("L26", "class A:\n    def encode(self):\n        return 1\n"),
+    ("L26", "class A:\n    def __init__(self):\n        self.values = 1\n"),
     ("L27", "X = '5 %'\n"),
     ("L27", "X = '\\u0041'\n"),
     ("L27", "def f(a):\n    return 2 ** a\n"),

@@ -8,55 +8,7 @@ import unittest
 from manypurses.errors import BadOrder
 from manypurses.orders import are_orders, clash, is_order, place_of, summed
 
-
-def nested(depth):
-    thing = ()
-    for turn in range(depth):
-        thing = (thing,)
-    return thing
-
-
-def round_list():
-    thing = []
-    thing.append(thing)
-    return thing
-
-
-ORDERS = (
-    (0, 0, 1, 1), (0, 0, 7, 1), (7, 0, 0, 1), (7, 99, 6, 1000), (0, 99, 1, 1000),
-    (3, 50, 4, 500), (1, 0, 0, 1000), (6, 99, 7, 1),
-)
-
-BEYOND = (
-    (-1, 0, 1, 1), (8, 0, 1, 1),
-    (0, -1, 1, 1), (0, 100, 1, 1),
-    (0, 0, -1, 1), (0, 0, 8, 1),
-    (0, 0, 1, 0), (0, 0, 1, -1), (0, 0, 1, 1001),
-    (0, 0, 0, 1), (7, 99, 7, 1000),
-    (10 ** 40, 0, 1, 1), (0, 10 ** 40, 1, 1), (0, 0, 10 ** 40, 1), (0, 0, 1, 10 ** 40),
-)
-
-OTHER_KINDS = (
-    None, True, False, 0, 5, -1, "", "0.0: 1 to 1", "abcd", b"", b"\x00\x00\x01\x01", [], {}, set(),
-    {0: 0, 1: 0, 2: 1, 3: 1}, {0, 1, 2, 3}, frozenset((0, 1, 2, 3)), object(), tuple, len, range(4),
-    [0, 0, 1, 1], [(0, 0, 1, 1)], {(0, 0, 1, 1): True}, ((0, 0, 1, 1),), ((0, 0, 1, 1), (0, 0, 1, 1)),
-    (), (0,), (0, 0), (0, 0, 1), (0, 0, 1, 1, 1), (0, 0, 1, 1, None), (0,) * 1000,
-    ((0, 0), (1, 1)), ((0, 0, 1, 1), (0,)), nested(1), nested(100000), round_list(),
-)
-
-PARTS = (
-    None, True, False, "0", "1", "", b"0", b"\x01", [], [0], [1], (), (0,), (1,), {}, {0: 1}, set(), {1},
-    object(), int, len, (0, 0, 1, 1), nested(100000), round_list(),
-)
-
-
-def spoilt():
-    """An order with each thing of another kind at each of its four places."""
-    return [(0, 0, 1, 1)[:at] + (part,) + (0, 0, 1, 1)[at + 1:] for at in range(4) for part in PARTS]
-
-
-def no_orders():
-    return list(BEYOND) + list(OTHER_KINDS) + spoilt()
+from things import BEYOND, ORDERS, OTHER_KINDS, no_orders, spoilt
 
 
 class TestIsOrder(unittest.TestCase):
