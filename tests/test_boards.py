@@ -62,7 +62,8 @@ class TestChecked(unittest.TestCase):
         signers = (0, 1, 2)
         for at, thing in enumerate(([ORDER, signers], [ORDER, [0, 1, 2]], (ORDER, [0, 1, 2]), (ORDER,),
                                     (ORDER, signers, ()), (signers, ORDER), ORDER, signers, (), {ORDER: signers},
-                                    (ORDER, ORDER), ((ORDER, signers),), (list(ORDER), signers), (None, signers), (ORDER, None))):
+                                    (ORDER, ORDER), ((ORDER, signers),), (list(ORDER), signers), (None, signers),
+                                    (ORDER, None))):
             with self.subTest(at=at):
                 self.assertIs(checked(thing, houses=4, few=1), False)
 
