@@ -16,7 +16,7 @@ def checked(paper, *, houses, few, purses=MOST_PURSES):
 
 
 class Board:
-    """Who signed what: orders stand on it, or cuts."""
+    """Who signed what: houses sign orders or cuts, owners the orders of their joint purse."""
 
     def __init__(self, enough):
         self.enough = enough

@@ -1,31 +1,22 @@
 """How one honest house keeps the purses."""
 
+from manypurses.books import Book
 from manypurses.orders import place_of
 
 
-class Keeper:
-    """What an honest house knows of the purses, and what it has heard, voted for, settled and laid by."""
+class Keeper(Book):
+    """An honest house's book, and what the house has heard, voted for and laid by."""
 
     def __init__(self, sums):
-        self.held = list(sums)
-        self.next_numbers = [0] * len(sums)
+        Book.__init__(self, sums)
         self.heard = {}
         self.unvoted = []
         self.choices = {}
         self.waiting = []
-        self.done = []
 
     def stands(self):
         """The cut that tells just how the house stands."""
         return (tuple(self.next_numbers), tuple(self.held))
-
-    def is_past(self, order):
-        return order[1] < self.next_numbers[order[0]]
-
-    def is_due(self, order):
-        """Whether the order has its purse's next number and no more than the purse has."""
-        purse, number, goal, much = order
-        return number == self.next_numbers[purse] and much <= self.held[purse]
 
     def left_of(self, purse, orders):
         """What the purse has here without those of its own orders that were not settled here."""
@@ -60,6 +51,7 @@ class Keeper:
         """Settles waiting papers till none can be settled; tells the votes that are given then."""
         order = self.first_due()
         while order is not None:
+            self.waiting.remove(order)
             self.settle(order)
             order = self.first_due()
         return self.give_votes()
@@ -70,14 +62,6 @@ class Keeper:
             if self.is_due(order):
                 return order
         return None
-
-    def settle(self, order):
-        purse, number, goal, much = order
-        self.waiting.remove(order)
-        self.held[purse] -= much
-        self.held[goal] += much
-        self.next_numbers[purse] += 1
-        self.done.append(order)
 
     def give_votes(self):
         """Votes wherever it may, in the order in which it heard; tells the orders voted for."""

@@ -36,6 +36,16 @@ def clash(one, other):
     return place_of(one) == place_of(other) and one != other
 
 
+def clashing_places(orders):
+    """The places of which there are unlike orders."""
+    firsts = {}
+    found = []
+    for order in orders:
+        if firsts.setdefault(place_of(order), order) != order:
+            found.append(place_of(order))
+    return found
+
+
 def in_common(houses, *, few):
     """How many signers two papers share at least, and how many of these are honest at least."""
     shared = 2 * enough_of(houses, few=few) - houses

@@ -1,6 +1,6 @@
 """Who cheated, who lied, which purses are stuck, and whether anything was lost."""
 
-from manypurses.orders import place_of
+from manypurses.orders import clashing_places
 from manypurses.worlds import check_world
 
 
@@ -37,16 +37,6 @@ def written_orders(world):
     for keeper in world.keepers.values():
         orders.extend(list(keeper.heard))
     return orders + list(world.board.signers)
-
-
-def clashing_places(orders):
-    """The places of which there are unlike orders."""
-    firsts = {}
-    found = []
-    for order in orders:
-        if firsts.setdefault(place_of(order), order) != order:
-            found.append(place_of(order))
-    return found
 
 
 def honest_choices(world):

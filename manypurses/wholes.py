@@ -18,3 +18,8 @@ def are_rising(things, bound):
             return False
         least = thing + 1
     return True
+
+
+def is_rising_row(thing, bound):
+    """Whether a thing of any kind is a list or tuple of numbers from 0 to below the bound, rising, each once."""
+    return isinstance(thing, (list, tuple)) and are_rising(thing, bound)

@@ -4,25 +4,12 @@ from manypurses.boards import Board
 from manypurses.errors import BadHouses, BadNumber, BadOrder, BadPaper, NoHouse, NoLetter, NoPurse, NotNow, TooMuch
 from manypurses.houses import enough_of, is_few, is_house_count, outnumber
 from manypurses.keepers import Keeper
-from manypurses.orders import LAST_NUMBER, MOST_MUCH, MOST_PURSES, is_order
-from manypurses.wholes import are_rising, is_between, is_whole
+from manypurses.orders import LAST_NUMBER, MOST_MUCH, is_order
+from manypurses.sums import are_first_sums
+from manypurses.wholes import is_between, is_rising_row, is_whole
 
-LEAST_PURSES = 2
-MOST_FIRST_SUM = 1000
 ORDER_LETTER = "order"
 PAPER_LETTER = "paper"
-
-
-def are_first_sums(thing):
-    """Whether a thing of any kind is a list of first sums of all purses of a world."""
-    if not isinstance(thing, list) or not LEAST_PURSES <= len(thing) <= MOST_PURSES:
-        return False
-    return all([is_between(each, 0, MOST_FIRST_SUM) for each in thing])
-
-
-def is_rising_row(thing, bound):
-    """Whether a thing of any kind is a list or tuple of numbers from 0 to below the bound, rising, each once."""
-    return isinstance(thing, (list, tuple)) and are_rising(thing, bound)
 
 
 def check_houses(houses, *, few, liars):

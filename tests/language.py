@@ -1,8 +1,8 @@
 """Finds what breaks LANGUAGE.md in a package's files, as far as it can be seen without running them.
 
-It is a part of the rules, no proof that all are kept. Seen in part: L3, L4, L15, L18, L19, L23, L24, L25, L26. Not
-seen: L6's finally, L7's bytes, L13, L22, L28. Stricter than L21 and L24: annotations are refused altogether, and sets
-that are kept.
+It is a part of the rules, no proof that all are kept. Seen in part: L3, L4, L15, L18, L19, L22, L23, L24, L25, L26.
+Stricter than L6, L7, L21, L24 and L28: refused altogether are finally, bytes, annotations, sets that are kept, and
+methods with two underscores but __init__.
 """
 
 import ast
@@ -44,6 +44,10 @@ OWN_METHODS = {name for kind in (str, int, list, dict, set, bytes, tuple) for na
 FREE_METHODS = METHODS - set(
     "encode decode hex fromhex to_bytes from_bytes translate maketrans sort bit_length".split())
 FREE_VALUES = set("count index title find get join lower upper split strip copy add".split())
+KINDS = set("int str bool list tuple dict".split())
+KEYS = set("len int str abs sum min max tuple".split())
+KEYWORDS = {"sorted": ("key", "reverse"), "min": ("key", "default"), "max": ("key", "default"), "sum": ("start",),
+            "enumerate": ("start",), "zip": ("strict",)}
 COMPREHENSIONS = (ast.ListComp, ast.SetComp, ast.DictComp)
 WALKED = ("zip", "enumerate", "reversed", "range")
 VIEWS = ("items", "keys", "values")
@@ -89,7 +93,7 @@ def sign_faults(text):
 
 
 def tree_faults(tree):
-    found = top_faults(tree)
+    found = top_faults(tree) + value_faults(tree) + init_faults(tree) + lambda_faults(tree)
     for node in ast.walk(tree):
         line = getattr(node, "lineno", 0)
         if not isinstance(node, ALLOWED):
@@ -97,6 +101,41 @@ def tree_faults(tree):
         for look in LOOKS:
             found += [(line, rule) for rule in look(node)]
     return found
+
+
+def value_faults(tree):
+    """Functions of Python's own that are kept as values, not called where they stand."""
+    right = set()
+    for node in ast.walk(tree):
+        if isinstance(node, ast.Call):
+            right.add(node.func)
+            if isinstance(node.func, ast.Name) and node.func.id == "isinstance":
+                right.update(each for arg in node.args[1:] for each in ast.walk(arg))
+        if isinstance(node, ast.keyword) and node.arg == "key" and isinstance(node.value, ast.Name):
+            right.update([node.value] if node.value.id in KEYS else [])
+    return [(node.lineno, "L22") for node in ast.walk(tree)
+            if isinstance(node, ast.Name) and node.id in BUILTINS and node.id[0].islower() and node not in right]
+
+
+def init_faults(tree):
+    """A base's __init__ is called in an __init__ alone, with self first; none gives anything back."""
+    right = set()
+    found = []
+    for node in ast.walk(tree):
+        if isinstance(node, ast.FunctionDef) and node.name == "__init__":
+            for each in ast.walk(node):
+                if isinstance(each, ast.Return) and each.value is not None:
+                    found.append((each.lineno, "L28"))
+                if isinstance(each, ast.Call) and each.args and ast.unparse(each.args[0]) == "self":
+                    right.add(each.func)
+    return found + [(node.lineno, "L28") for node in ast.walk(tree)
+                    if isinstance(node, ast.Attribute) and node.attr == "__init__" and node not in right]
+
+
+def lambda_faults(tree):
+    rows = [(node.lineno, [arg.arg for arg in node.args.args]) for node in ast.walk(tree)
+            if isinstance(node, ast.Lambda)]
+    return [(line, "L13") for line, names in rows if rows.count((line, names)) > 1]
 
 
 def is_text(node):
@@ -365,8 +404,45 @@ def own_name_looks(node):
     return found
 
 
+def strict_looks(node):
+    """What the rules allow in narrow forms alone, and the package does without."""
+    found = []
+    if isinstance(node, ast.Try) and node.finalbody:
+        found.append("L6")
+    if isinstance(node, ast.Constant) and isinstance(node.value, bytes):
+        found.append("L7")
+    if isinstance(node, ast.Name) and node.id == "bytes" or isinstance(node, ast.Attribute) and node.attr == "encode":
+        found.append("L7")
+    if isinstance(node, ast.FunctionDef) and node.name in DUNDERS - {"__init__"}:
+        found.append("L28")
+    if isinstance(node, ast.Set) and len([each for each in node.elts if is_written_number(each)]) > 2:
+        found.append("L13")
+    return found
+
+
+def is_written_number(node):
+    return isinstance(node, ast.Constant) and isinstance(node.value, int)
+
+
+def call_looks(node):
+    """Keywords at names and methods of Python's own, and what isinstance asks for."""
+    if not isinstance(node, ast.Call):
+        return []
+    found = []
+    words = [word.arg for word in node.keywords]
+    if isinstance(node.func, ast.Name) and node.func.id in BUILTINS:
+        found += ["L22" for word in words if word not in KEYWORDS.get(node.func.id, ())]
+    if isinstance(node.func, ast.Attribute) and node.func.attr in METHODS - {"sort"}:
+        found += ["L22" for word in words]
+    if isinstance(node.func, ast.Name) and node.func.id == "isinstance":
+        asked = node.args[1].elts if isinstance(node.args[1], ast.Tuple) else [node.args[1]]
+        found += ["L22" for each in asked if not isinstance(each, ast.Name)
+                  or each.id not in KINDS and not each.id[0].isupper()]
+    return found
+
+
 LOOKS = (import_looks, function_looks, class_looks, statement_looks, expression_looks, name_looks, loop_looks,
-         set_looks, own_name_looks)
+         set_looks, own_name_looks, strict_looks, call_looks)
 
 
 def package_faults(trees):

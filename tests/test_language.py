@@ -15,11 +15,19 @@ STEP = -2
 ROWS = (1, "a", (None, True))
 
 
-class Box:
-    """A box."""
+class Thing:
+    """A thing."""
 
     def __init__(self, many):
         self.many = many
+
+
+class Box(Thing):
+    """A box."""
+
+    def __init__(self, many):
+        Thing.__init__(self, many)
+        self.rows = sorted([1, -2], key=abs, reverse=True)
 
     def take(self, *, much=LIMIT + 1):
         if much > self.many:
@@ -121,6 +129,22 @@ BROKEN = (
     ("L24", "def f(a):\n    return sorted(set(a), key=f)\n"),
     ("L26", "class A:\n    def encode(self):\n        return 1\n"),
     ("L26", "class A:\n    def __init__(self):\n        self.values = 1\n"),
+    ("L6", "def f(a):\n    try:\n        return a[0]\n    finally:\n        pass\n"),
+    ("L7", "X = b'a'\n"),
+    ("L7", "def f(a):\n    return bytes(a)\n"),
+    ("L13", "def f(a):\n    return a in {1, 2, 3}\n"),
+    ("L13", "def f(a):\n    return [lambda k: k, lambda k: k + 1]\n"),
+    ("L22", "def f(a):\n    return [len, a]\n"),
+    ("L22", "def f(a):\n    return sorted(a, key=repr)\n"),
+    ("L22", "def f(a):\n    b = int\n    return b(a)\n"),
+    ("L22", "def f(a):\n    return int(a, base=2)\n"),
+    ("L22", "def f(a):\n    return a.split(sep='b')\n"),
+    ("L22", "def f(a):\n    return isinstance(a, set)\n"),
+    ("L22", "def f(a, b):\n    return isinstance(a, (int, b))\n"),
+    ("L28", "class A:\n    def __init__(self):\n        return None\n"),
+    ("L28", "class A:\n    def __len__(self):\n        return 1\n"),
+    ("L28", "class A:\n    pass\n\n\nclass B(A):\n    def f(self):\n        A.__init__(self)\n"),
+    ("L28", "class A:\n    pass\n\n\nclass B(A):\n    def __init__(self, a):\n        A.__init__(a)\n"),
     ("L27", "X = '5 %'\n"),
     ("L27", "X = '\\u0041'\n"),
     ("L27", "def f(a):\n    return 2 ** a\n"),

@@ -6,7 +6,7 @@ import unittest
 from manypurses.errors import BadHouses, BadNumber, PurseError
 from manypurses.worlds import World
 
-from things import ask_through, inner, nested, no_numbers, no_wholes, round_list
+from things import ask_through, inner, nested, no_numbers, no_rows, round_list
 
 SUMS = [10, 0, 5]
 
@@ -19,15 +19,6 @@ def refusal(houses=7, **given):
     except PurseError as why:
         return type(why)
     return None
-
-
-def no_rows(bound):
-    """Things that are no list or tuple of numbers from 0 to below the bound, rising, each once."""
-    rows = [[-1], [bound], [0, bound], [1, 0], [0, 0], [0, 1, 1], [10 ** 40], [True], [False], [0, True], [False, 1]]
-    rows += [[part] for part in no_wholes()] + [[0, part] for part in no_wholes()]
-    others = [None, True, False, 0, 1, -1, "", "0", b"", b"\x00", {}, {0: 0}, set(), {0}, frozenset((0,)), range(0),
-              range(1), object(), list, len, nested(3), round_list()]
-    return rows + [tuple(row) for row in rows] + others
 
 
 class TestNumbers(unittest.TestCase):
